@@ -1,0 +1,104 @@
+"""The names of the interface: each defined in its own file, with just its arguments."""
+
+import ast
+import importlib
+import inspect
+import pathlib
+import unittest
+
+from neargrades.scales import CostScale, PairScale
+from neargrades.scalemaps import ScaleMap
+from neargrades.spaces import Space
+from neargrades.systems import System
+from tests.samples import PACKAGE, lawful_scales
+
+FOLDER = pathlib.Path(__file__).resolve().parent.parent / PACKAGE
+
+FUNCTIONS = {
+    "scales": ["first_fault(scale)"],
+    "residues": ["within(scale, a, b)", "height(scale)", "idempotent(scale)"],
+    "scalemaps": ["all_maps(source, target)", "keeps_only(m)"],
+    "spaces": ["closed_space(scale, names, steps)", "near_classes(space, grade)", "led_space(m, space)",
+               "space_of(scale, names, table)"],
+    "tables": ["behind(scale, table, other)", "joined_tables(scale, table, other)", "met_tables(scale, table, other)",
+               "turned_table(scale, table)", "led_table(m, table)", "same_table(scale, names)", "space_table(space)",
+               "table_within(scale, table, other)", "tables_alike(scale, table, other)"],
+    "kinds": ["check_kind(kind, scale)", "stones(kind)", "kind_at(kind, path)", "has_next(kind)"],
+    "values": ["value_of(kind, scale, states, data)", "is_value(kind, scale, states, value)",
+               "is_ahead(kind, scale, states, value, other)", "states_in(kind, value)", "parts_in(kind, value)",
+               "led_value(kind, scale, states, value, images)"],
+    "kindtexts": ["write_kind(kind, spaces)", "read_kind(scale, spaces, text)", "write_value(kind, value)",
+                  "read_value(kind, scale, states, text)"],
+    "systems": ["made_system(scale, kind, states, steps)", "reached_from(system, states)", "part_from(system, states)",
+                "summed(system, other)", "both_side(system, other)", "with_step(system, name, data)",
+                "without_state(system, name)"],
+}
+CLASSES = {
+    "scales": {
+        "Scale": (None, ["grades()", "join(a, b)", "then(a, b)", "joined(row)", "meet(a, b)", "met(row)", "only(a, b)",
+                         "__contains__(x)", "__len__()", "__eq__(other)"]),
+        "TableScale": ("(grades, joins, products, *, none, nearest)", []),
+        "CostScale": ("(top)", []), "StopScale": ("(top)", []), "LevelScale": ("(top)", []),
+        "SetScale": ("(names)", []), "PairScale": ("(left, right)", []),
+    },
+    "scalemaps": {"ScaleMap": ("(source, target, images)", [
+        "same(scale)", "images()", "__call__(grade)", "__rshift__(other)", "__eq__(other)"])},
+    "spaces": {"Space": ("(scale, names, rows)", [
+        "near(a, b)", "names()", "__contains__(x)", "__len__()", "__eq__(other)"])},
+    "systems": {"System": ("(scale, kind, states, steps)", [
+        "states()", "step(x)", "__contains__(x)", "__len__()", "__eq__(other)"])},
+}
+
+
+def module(name):
+    return importlib.import_module(f"{PACKAGE}.{name}")
+
+
+def defined_in(name):
+    """The functions and classes that a file defines at its top."""
+    tree = ast.parse((FOLDER / f"{name}.py").read_text("ascii"))
+    return {node.name: node for node in tree.body if isinstance(node, (ast.FunctionDef, ast.ClassDef))}
+
+
+class InterfaceTest(unittest.TestCase):
+
+    def test_functions(self):
+        for name, told in FUNCTIONS.items():
+            found = defined_in(name)
+            for text in told:
+                word = text.partition("(")[0]
+                self.assertIsInstance(found.get(word), ast.FunctionDef, text)
+                self.assertEqual(word + str(inspect.signature(getattr(module(name), word))), text)
+
+    def test_classes(self):
+        for name, told in CLASSES.items():
+            found = defined_in(name)
+            for word, (arguments, methods) in told.items():
+                self.assertIsInstance(found.get(word), ast.ClassDef, word)
+                made = getattr(module(name), word)
+                if arguments is not None:
+                    self.assertEqual(str(inspect.signature(made)), arguments, word)
+                bodies = [node.name for node in found[word].body if isinstance(node, ast.FunctionDef)]
+                for text in methods:
+                    method = text.partition("(")[0]
+                    self.assertIn(method, bodies)
+                    bound = made.same if method == "same" else inspect.unwrap(vars(made)[method])
+                    shown = str(inspect.signature(bound)).replace("(self, ", "(").replace("(self)", "()")
+                    self.assertEqual(method + shown, text)
+
+    def test_attributes(self):
+        for scale in lawful_scales():
+            self.assertIn(scale.none, scale.grades())
+            self.assertIn(scale.nearest, scale.grades())
+        pair = PairScale(CostScale(0), CostScale(1))
+        self.assertEqual((len(pair.left), len(pair.right)), (2, 3))
+        m = ScaleMap.same(pair)
+        self.assertTrue(m.source == pair and m.target == pair)
+        self.assertTrue(Space(pair, [], []).scale == pair)
+        system = System(pair, ("next",), [], {})
+        self.assertTrue(system.scale == pair)
+        self.assertEqual(system.kind, ("next",))
+
+
+if __name__ == "__main__":
+    unittest.main()
