@@ -139,7 +139,7 @@ def _check_rows(grades, rows):
 
 def _check_entries(grades, entries):
     for entry in entries:
-        if not isinstance(entry, str) or entry not in grades:
+        if entry not in grades:
             raise BadScale()
 
 

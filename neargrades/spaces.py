@@ -115,8 +115,7 @@ def space_of(scale, names, table):
 
 def near_classes(space, grade):
     """The classes of names that have an idempotent grade both ways."""
-    if grade not in space.scale:
-        raise UnknownGrade(grade)
+    # The product raises UnknownGrade.
     if space.scale.then(grade, grade) != grade:
         raise NotIdempotent(grade)
     classes = []

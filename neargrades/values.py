@@ -44,9 +44,7 @@ def _told_state(places, data, path):
 
 
 def _told_side(kind, scale, places, data, path):
-    if not isinstance(data, tuple) or len(data) != 2:
-        raise BadValue(path)
-    if not isinstance(data[0], str) or data[0] not in SIDES:
+    if not isinstance(data, tuple) or len(data) != 2 or data[0] not in SIDES:
         raise BadValue(path)
     return (data[0], _told(side_kind(kind, data[0]), scale, places, data[1], (*path, 0)))
 
@@ -120,8 +118,6 @@ def is_ahead(kind, scale, states, value, other):
 def _inner_values(kind, value):
     """The list of the pairs (kind, value) of the values that stand directly in a value."""
     word = kind[0]
-    if word in ("names", "next"):
-        return []
     if word == "either":
         return [(side_kind(kind, value[0]), value[1])]
     if word in SETS:
@@ -150,13 +146,10 @@ def parts_in(kind, value):
 
 def led_value(kind, scale, states, value, images):
     """The value with each state exchanged by its image, in its form over the images' states."""
-    inside = states_in(kind, value)
-    for state in inside:
+    for state in states_in(kind, value):
         if state not in images:
             raise UnknownState(state)
-    for state in inside:
-        if images[state] not in states:
-            raise UnknownState(images[state])
+    # This goes through the images in the same order, and raises UnknownState for the first that is no state.
     return value_of(kind, scale, states, _exchanged(kind, value, images))
 
 

@@ -207,6 +207,11 @@ class FamiliesTest(Checks, unittest.TestCase):
                             (CostScale(6), CostScale(6)), (LevelScale(1), LevelScale(6))):
             self.check_raises(BadScale, PairScale, left, right)
 
+    def test_pairs_of_what_is_no_scale(self):
+        for value in any_values():
+            self.check_raises(BadScale, PairScale, value, CostScale(0))
+            self.check_raises(BadScale, PairScale, CostScale(0), value)
+
     def test_pairs_of_scales_that_are_not_lawful(self):
         scale = PairScale(TableScale(BOOLS, AND, OR, none="t", nearest="t"), CostScale(0))
         self.assertEqual(scale.join("f/0", "t/none"), "f/0")
@@ -310,6 +315,13 @@ class EveryScaleTest(Checks, unittest.TestCase):
             self.assertIs(scale != other, True)
         for value in any_values() + [scale.grades()]:
             self.assertIs(scale == value, False)
+
+    def test_unequal_by_the_order_of_the_grades_alone(self):
+        rows = [["f", "f"], ["f", "f"]]
+        one = TableScale(["f", "t"], rows, rows, none="f", nearest="f")
+        for grades in (["t", "f"], ["f", "u"]):
+            self.assertIs(one == TableScale(grades, rows, rows, none="f", nearest="f"), False)
+        self.assertIs(one == TableScale(("f", "t"), rows, rows, none="f", nearest="f"), True)
 
     def test_meet_and_only_by_their_words(self):
         for scale in lawful_scales():

@@ -118,6 +118,11 @@ class SystemTest(Checks, unittest.TestCase):
         self.assertIs("A b" in system, True)
         self.assertEqual(len(system), 6)
 
+    def test_made_of_what_are_no_strings(self):
+        for name in any_values():
+            if not isinstance(name, str):
+                self.check_raises(BadName, made_system, COST, NEXT, ["a", "a", name, None], {"x": None}, name=name)
+
     def test_equal(self):
         system = sample()
         grades, joins, products, none, nearest = table_of(COST)
