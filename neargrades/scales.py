@@ -155,8 +155,34 @@ def _numbers(top):
 
 def _rows_by_place(grades, place_of):
     """The table whose entry is the grade at the place that two places give."""
-    places = range(len(grades))
+    places = list(range(len(grades)))
     return [[grades[place_of(i, j)] for j in places] for i in places]
+
+
+def _lesser_places(grades):
+    return _rows_by_place(grades, lambda i, j: min(i, j))
+
+
+def _greater_places(grades):
+    return _rows_by_place(grades, lambda i, j: max(i, j))
+
+
+def _cost_sums(grades, top):
+    # None stands behind the numbers: as a cost it is top + 1.
+    return _rows_by_place(grades, lambda i, j: min(i + j, top + 1))
+
+
+def _stop_sums(grades, top):
+    return _rows_by_place(grades, lambda i, j: max(i, j) if top + 1 in (i, j) else min(i + j, top))
+
+
+def _unions(grades):
+    # The bits of a place tell which letters its set has.
+    return _rows_by_place(grades, lambda i, j: i | j)
+
+
+def _common_parts(grades):
+    return _rows_by_place(grades, lambda i, j: i & j)
 
 
 class CostScale(Scale):
@@ -165,10 +191,7 @@ class CostScale(Scale):
     def __init__(self, top):
         _check_top(top, 0, 6)
         grades = _numbers(top) + ["none"]
-        # None stands behind the numbers: as a cost it is top + 1.
-        joins = _rows_by_place(grades, lambda i, j: min(i, j))
-        products = _rows_by_place(grades, lambda i, j: min(i + j, top + 1))
-        Scale.__init__(self, grades, joins, products, "none", "0")
+        Scale.__init__(self, grades, _lesser_places(grades), _cost_sums(grades, top), "none", "0")
 
 
 class StopScale(Scale):
@@ -177,9 +200,7 @@ class StopScale(Scale):
     def __init__(self, top):
         _check_top(top, 0, 6)
         grades = _numbers(top) + ["none"]
-        joins = _rows_by_place(grades, lambda i, j: min(i, j))
-        products = _rows_by_place(grades, lambda i, j: max(i, j) if top + 1 in (i, j) else min(i + j, top))
-        Scale.__init__(self, grades, joins, products, "none", "0")
+        Scale.__init__(self, grades, _lesser_places(grades), _stop_sums(grades, top), "none", "0")
 
 
 class LevelScale(Scale):
@@ -188,9 +209,7 @@ class LevelScale(Scale):
     def __init__(self, top):
         _check_top(top, 1, 7)
         grades = _numbers(top)
-        joins = _rows_by_place(grades, lambda i, j: max(i, j))
-        products = _rows_by_place(grades, lambda i, j: min(i, j))
-        Scale.__init__(self, grades, joins, products, "0", grades[top])
+        Scale.__init__(self, grades, _greater_places(grades), _lesser_places(grades), "0", grades[top])
 
 
 class SetScale(Scale):
@@ -199,10 +218,7 @@ class SetScale(Scale):
     def __init__(self, names):
         _check_letters(names)
         grades = _letter_sets(names)
-        # The bits of a place tell which letters its set has.
-        joins = _rows_by_place(grades, lambda i, j: i | j)
-        products = _rows_by_place(grades, lambda i, j: i & j)
-        Scale.__init__(self, grades, joins, products, grades[0], grades[-1])
+        Scale.__init__(self, grades, _unions(grades), _common_parts(grades), grades[0], grades[-1])
 
 
 def _check_letters(names):

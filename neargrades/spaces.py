@@ -99,7 +99,7 @@ def _check_step(scale, places, a, b, grade):
 
 def _by_way_of(scale, rows, middle):
     """The rows in which chains by way of one more name are let in."""
-    places = range(len(rows))
+    places = list(range(len(rows)))
     return [
         [scale.join(rows[i][j], scale.then(rows[i][middle], rows[middle][j])) for j in places]
         for i in places

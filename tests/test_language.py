@@ -232,6 +232,12 @@ class LanguageTest(unittest.TestCase):
             if isinstance(node.func, ast.Name) and node.func.id in ("any", "all", "sum", "min", "max", "sorted"):
                 self.assertNotIsInstance(node.args[0], ast.GeneratorExp, place)
 
+    def test_nothing_is_nested_in_init(self):
+        for place, node in self.each(ast.FunctionDef):
+            if node.name == "__init__":
+                for inner in list(ast.walk(node))[1:]:
+                    self.assertNotIsInstance(inner, (ast.FunctionDef, ast.Lambda, ast.Return), place)
+
     def test_one_lambda_in_a_line(self):
         for name, tree in TREES.items():
             rows = [node.lineno for node in ast.walk(tree) if isinstance(node, ast.Lambda)]
