@@ -63,9 +63,23 @@ def made_system(scale, kind, states, steps):
     return system
 
 
-def _steps_of(system):
-    """A dict from the states of a system to their steps."""
+def steps_of(system):
+    """A dict from the states of a system, in order, to their steps."""
     return {x: system.step(x) for x in system.states()}
+
+
+def check_like(system, other):
+    """Raise MixedScales, then MixedKinds, unless two systems have one scale and one kind."""
+    if system.scale != other.scale:
+        raise MixedScales()
+    if system.kind != other.kind:
+        raise MixedKinds()
+
+
+def check_state(system, x):
+    """Raise UnknownState unless x, any value, is a state."""
+    if x not in system:
+        raise UnknownState(x)
 
 
 def _next_states(system, x):
@@ -76,8 +90,7 @@ def _next_states(system, x):
 def reached_from(system, states):
     """The list of the states that are reached from some states, in the system's order."""
     for x in states:
-        if x not in system:
-            raise UnknownState(x)
+        check_state(system, x)
     reached = {}
     waiting = list(states)
     while waiting:
@@ -96,10 +109,7 @@ def part_from(system, states):
 
 def summed(system, other):
     """The sum of two systems of one scale and kind."""
-    if system.scale != other.scale:
-        raise MixedScales()
-    if system.kind != other.kind:
-        raise MixedKinds()
+    check_like(system, other)
     first = {x: "l." + x for x in system.states()}
     second = {x: "r." + x for x in other.states()}
     states = list(first.values()) + list(second.values())
@@ -141,13 +151,12 @@ def with_step(system, name, data):
         if not is_word(name):
             raise BadName(name)
         states.append(name)
-    return made_system(system.scale, system.kind, states, {**_steps_of(system), name: data})
+    return made_system(system.scale, system.kind, states, {**steps_of(system), name: data})
 
 
 def without_state(system, name):
     """The system without a state that no other one leads to."""
-    if name not in system:
-        raise UnknownState(name)
+    check_state(system, name)
     states = [x for x in system.states() if x != name]
     for x in states:
         if name in _next_states(system, x):

@@ -32,6 +32,23 @@ FUNCTIONS = {
     "systems": ["made_system(scale, kind, states, steps)", "reached_from(system, states)", "part_from(system, states)",
                 "summed(system, other)", "both_side(system, other)", "with_step(system, name, data)",
                 "without_state(system, name)"],
+    "systemtexts": ["write_system(system)", "read_system(scale, kind, text)"],
+    "lifting": ["lifted(kind, scale, table, v, w)"],
+    "rounds": ["stepped(system, other, table, x, y)", "first_table(system, other)", "round_of(system, other, table)",
+               "tables(system, other, count)", "nearness(system, other)", "near(system, other, x, y)",
+               "first_open(system, other, table)", "round_below(system, other, x, y, grade)"],
+    "asking": ["whole_pairs(system, other, pairs)", "nearness_on(system, other, pairs)",
+               "nearness_one_by_one(system, other, order)"],
+    "judging": ["judge_paper(system, other, value)", "paper_table(system, other, value)"],
+    "papers": ["paper_of(system, other, pairs)", "claim_paper(system, other, x, y, grade)",
+               "thinned(system, other, paper, x, y)", "joined(system, other, paper, second)",
+               "cut(system, other, paper, pairs)", "behind_papers(system, middle, other, paper, second)"],
+    "turning": ["turned_kind(kind)", "turned_system(system)", "turned_paper(paper)"],
+    "ladders": ["judge_ladder(system, other, value)", "ladder_of(system, other, pairs, rounds)"],
+    "sayings": ["check_saying(kind, scale, saying)", "depth(kind, scale, saying)", "parts_of(kind, scale, saying)",
+                "shared(kind, scale, saying)", "written_out(kind, scale, lines, number)"],
+    "worths": ["worth_at(system, x, saying)", "worths(system, saying)", "value_worth(system, value, saying)",
+               "line_worths(system, lines, number)"],
 }
 CLASSES = {
     "scales": {
