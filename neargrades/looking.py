@@ -15,7 +15,8 @@ def _spots(kind, value):
     while waiting:
         part, inner, place = waiting.pop()
         if part[0] == "next":
-            told.setdefault(place, {})[inner] = True
+            states = told.setdefault(place, {})
+            states[inner] = True
         else:
             waiting.extend(_inner_spots(part, inner, place))
     return told

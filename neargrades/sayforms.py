@@ -5,7 +5,7 @@ A place of a saying is STATES, or the number of the stone of a plan whose values
 
 from neargrades.words import is_number
 
-STATES = -1
+STATES = "states"
 # How many parts each form has that is made of parts alone; "rows" has one for each letter.
 PARTS = {"and": 2, "or": 2, "step": 1, "now": 1, "halves": 2, "left": 1, "right": 1, "some": 1, "all": 1}
 EVERYWHERE = ("and", "or", "by", "if")
