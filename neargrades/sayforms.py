@@ -84,3 +84,29 @@ def part_places(plan, place, saying):
     if word == "halves":
         return list(stones)
     return [stones[1] if word == "right" else stones[0]] * len(parts)
+
+
+def same_places(place, saying):
+    """For each part of what has a form the same place: for those who do not ask for places."""
+    return [place] * len(inner_parts(saying))
+
+
+def gathered(saying, place, places_of, make):
+    """What make(part, place, made) tells of a saying, made being the list of what it tells of the part's parts.
+
+    Sayings may stand deep in one another: so one goes through them by a list of what waits.
+    """
+    done = []
+    waiting = [(saying, place, False)]
+    while waiting:
+        part, where, is_begun = waiting.pop()
+        parts = inner_parts(part)
+        if is_begun:
+            first = len(done) - len(parts)
+            done = [*done[:first], make(part, where, done[first:])]
+        else:
+            places = places_of(where, part)
+            # The last one of the list is the next one: first the parts, in order, then this one again.
+            waiting.append((part, where, True))
+            waiting.extend([(parts[k], places[k], False) for k in range(len(parts))][::-1])
+    return done[0]

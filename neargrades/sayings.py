@@ -1,7 +1,7 @@
 """Sayings, which tell that states are no nearer, and lines, which tell sayings whose parts are shared."""
 
 from neargrades.errors import BadSaying, TooMany
-from neargrades.lines import check_line_at, check_lines, count_parts, lines_of, saying_of_line
+from neargrades.lines import checked_places, check_lines, count_parts, lines_of, saying_of_line
 from neargrades.sayforms import STATES, has_form, inner_parts, may_stand, part_places
 from neargrades.shelves import Plan
 
@@ -56,7 +56,7 @@ def shared(kind, scale, saying):
 def written_out(kind, scale, lines, number):
     """The saying about states that a line tells."""
     check_lines(scale, lines, number)
-    check_line_at(Plan(kind), lines, number, STATES)
+    checked_places(Plan(kind), lines, number, STATES)
     if count_parts(lines, number, MOST_PARTS) > MOST_PARTS:
         raise TooMany()
     return saying_of_line(lines, number)

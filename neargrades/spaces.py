@@ -1,8 +1,7 @@
 """Spaces: names with a nearness among them."""
 
-from neargrades.errors import (
-    BadTable, MixedScales, NotIdempotent, NotSame, NotThrough, UnknownGrade, UnknownName,
-)
+from neargrades.errors import BadTable, MixedScales, NotSame, NotThrough, UnknownGrade, UnknownName
+from neargrades.likeness import are_near, check_idempotent, parted
 from neargrades.residues import within
 from neargrades.tables import check_table
 from neargrades.words import check_words, is_row
@@ -115,22 +114,8 @@ def space_of(scale, names, table):
 
 def near_classes(space, grade):
     """The classes of names that have an idempotent grade both ways."""
-    # The product raises UnknownGrade.
-    if space.scale.then(grade, grade) != grade:
-        raise NotIdempotent(grade)
-    classes = []
-    for name in space.names():
-        # One name tells for all of its class: likeness at an idempotent grade goes through.
-        home = [k for k in range(len(classes)) if _are_like(space, grade, classes[k][0], name)]
-        if home:
-            classes[home[0]].append(name)
-        else:
-            classes.append([name])
-    return classes
-
-
-def _are_like(space, grade, a, b):
-    return within(space.scale, grade, space.near(a, b)) and within(space.scale, grade, space.near(b, a))
+    check_idempotent(space.scale, grade)
+    return parted(space.names(), lambda a, b: are_near(space.scale, grade, space.near(a, b), space.near(b, a)))
 
 
 def led_space(m, space):

@@ -2,7 +2,6 @@
 
 from neargrades.gradetables import GradeTables
 from neargrades.kinds import SIDES
-from neargrades.lines import line_places, parts_at
 from neargrades.sayforms import STATES
 from neargrades.shelves import Plan, Shelf
 
@@ -18,28 +17,35 @@ class Weigher:
         self._shelf = Shelf(self._plan, values)
         self._grades = GradeTables(system.scale)
 
-    def at_states(self, lines, number):
-        """A dict from all states, in order, to the worths of the saying of a line."""
-        row = self._weighed(lines, number, STATES)
+    def at_states(self, lines, places):
+        """A dict from all states, in order, to the worths of the saying of the last of some lines.
+
+        Its lines stand at right places, as line_places tells them.
+        """
+        row = self._weighed(lines, places)[STATES]
         return {self._states[k]: row[k] for k in range(len(row))}
 
-    def at_value(self, lines, number, name):
-        """The worth of the saying of a line, about values, at the value that stands under a name."""
-        return self._weighed(lines, number, 0)[self._shelf.roots[name]]
+    def at_value(self, lines, places, name):
+        """The worth of such a saying, if it is about values, at the value that stands under a name."""
+        return self._weighed(lines, places)[0][self._shelf.roots[name]]
 
-    def _weighed(self, lines, number, place):
-        places = line_places(self._plan, lines, number, place)
+    def _weighed(self, lines, places):
+        """A dict from the places of the last line to its worths there."""
         rows = []
         for k in range(len(places)):
-            rows.append({where: self._row(lines[k], where, self._rows_of_parts(rows, lines[k], where))
-                         for where in places[k]})
-        return rows[number][place]
+            rows.append({where: self.row_of(lines[k], where, [rows[part][at] for part, at in inner])
+                         for where, inner in places[k].items()})
+        return rows[-1]
 
-    def _rows_of_parts(self, rows, line, place):
-        return [rows[part][inner] for part, inner in parts_at(self._plan, line, place)]
+    def place_of_state(self, x):
+        """Where the worth at a state stands in a row of the worths at all states."""
+        return self._places[x]
 
-    def _row(self, line, place, rows):
-        """The worths of a line at all that stands at a place; rows are those of its parts."""
+    def row_of(self, line, place, rows):
+        """The worths of a line at all that stands at a place; rows are those of its parts.
+
+        What the line has in the place of its parts is not looked at.
+        """
         if not isinstance(line, tuple):
             return [line] * self._size(place)
         word = line[0]

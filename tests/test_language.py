@@ -73,6 +73,8 @@ def local_names(tree):
     names = {node.id for node in ast.walk(tree) if isinstance(node, ast.Name) and isinstance(node.ctx, ast.Store)}
     names |= {one.arg for function in functions(tree) for one in parameters(function)}
     names |= {node.name for node in ast.walk(tree) if isinstance(node, ast.ExceptHandler) and node.name}
+    names |= {inner.name for node in ast.walk(tree) if isinstance(node, ast.FunctionDef) for inner in ast.walk(node)
+              if isinstance(inner, ast.FunctionDef) and inner is not node}
     return names
 
 
@@ -151,7 +153,9 @@ class LanguageTest(unittest.TestCase):
     def test_functions_have_plain_parameters(self):
         for place, node in self.each(ast.FunctionDef, ast.Lambda):
             told = node.args
-            self.assertEqual((told.defaults, [one for one in told.kw_defaults if one], told.posonlyargs), ([], [], []), place)
+            self.assertEqual((told.defaults, told.posonlyargs), ([], []), place)
+            for one in told.kw_defaults:
+                self.assertIsNone(one and one.value, place)
             self.assertIsNone(told.vararg or told.kwarg, place)
             for one in parameters(node):
                 self.assertIsNone(one.annotation, place)
@@ -237,6 +241,15 @@ class LanguageTest(unittest.TestCase):
             if node.name == "__init__":
                 for inner in list(ast.walk(node))[1:]:
                     self.assertNotIsInstance(inner, (ast.FunctionDef, ast.Lambda, ast.Return), place)
+
+    def test_methods_are_not_passed_on(self):
+        own = {node.name for tree in TREES.values() for one in ast.walk(tree) if isinstance(one, ast.ClassDef)
+               for node in one.body if isinstance(node, ast.FunctionDef)}
+        for name, tree in TREES.items():
+            called = [node.func for node in ast.walk(tree) if isinstance(node, ast.Call)]
+            for node in ast.walk(tree):
+                if isinstance(node, ast.Attribute) and isinstance(node.ctx, ast.Load) and node not in called:
+                    self.assertNotIn(node.attr, own | METHODS, f"{name}:{node.lineno}")
 
     def test_one_lambda_in_a_line(self):
         for name, tree in TREES.items():
