@@ -24,6 +24,13 @@ class Plan:
         """The word of a stone."""
         return self.kinds[stone][0]
 
+    def stone_at(self, path):
+        """The number of the stone at a path of the kind."""
+        stone = 0
+        for number in path:
+            stone = self.parts[stone][number]
+        return stone
+
     def is_member(self, stone):
         """Whether what stands at a stone is a member of a set."""
         return stone > 0 and self.word(self.above[stone]) in SETS

@@ -10,6 +10,7 @@ from neargrades.scales import CostScale, PairScale
 from neargrades.scalemaps import ScaleMap
 from neargrades.spaces import Space
 from neargrades.systems import System
+from neargrades.yard import Yard
 from tests.samples import PACKAGE, lawful_scales
 
 FOLDER = pathlib.Path(__file__).resolve().parent.parent / PACKAGE
@@ -49,6 +50,25 @@ FUNCTIONS = {
                 "shared(kind, scale, saying)", "written_out(kind, scale, lines, number)"],
     "worths": ["worth_at(system, x, saying)", "worths(system, saying)", "value_worth(system, value, saying)",
                "line_worths(system, lines, number)"],
+    "told": ["told_saying(system, x, rounds)", "told_value(system, value, rounds)", "told_lines(system, rounds)",
+             "parting(system, other, x, y, grade)", "parting_lines(system, other, x, y, grade)",
+             "judge_saying(system, other, x, y, grade, saying)", "judge_lines(system, other, x, y, grade, lines, number)",
+             "thinned_saying(system, other, x, y, grade, saying)"],
+    "sayingtexts": ["write_saying(saying)", "read_saying(text)"],
+    "classes": ["classes(system, e)", "first_of(system, e, x)", "all_classes(system)", "partners(system, other, e)",
+                "check_blocks(system, e, blocks)"],
+    "folds": ["folded(system, e, *, blocks=None)", "fold_paper(system, e, *, blocks=None)",
+              "unfold_paper(system, e, *, blocks=None)"],
+    "pruning": ["needless(system, x)", "pruned(system)"],
+    "led": ["mapped_kind(m, kind)", "mapped_system(m, system)", "mapped_value(m, kind, states, value)",
+            "mapped_paper(m, paper)", "mapped_saying(m, saying)", "keeps_meets(m)", "first_less(m, system, other)"],
+    "turns": ["kind_behind(kind, turn)", "value_behind(kind, scale, states, value, turn)", "system_behind(system, turn)",
+              "saying_behind(kind, scale, saying, turn)", "saying_ahead(kind, scale, saying, turn)", "all_turns(kind)",
+              "renamed(system, images)", "renamed_paper(paper, images, others)"],
+    "branches": ["elders(yard, number)", "come_of(yard, number)", "last_common(yard, one, other)", "line_to(yard, number)",
+                 "attempt(yard, action)", "tried(yard, deeds)"],
+    "claims": ["open_states(yard, number, x, y)", "system_at(yard, number, x, y)", "near_at(yard, number, x, y)",
+               "verdict(yard, number, x, y)", "verdicts(yard, number)", "would_change(yard, deeds)"],
 }
 CLASSES = {
     "scales": {
@@ -64,6 +84,9 @@ CLASSES = {
         "near(a, b)", "names()", "__contains__(x)", "__len__()", "__eq__(other)"])},
     "systems": {"System": ("(scale, kind, states, steps)", [
         "states()", "step(x)", "__contains__(x)", "__len__()", "__eq__(other)"])},
+    "yard": {"Yard": ("(scale, kind, states)", [
+        "states()", "do(deed)", "present()", "moment(number)", "now()", "log()", "undo()", "redo()", "branch(name)", "go(name)",
+        "here()", "branches()", "trail(name)", "mark(name)", "merge(name)", "twin()", "__len__()", "__eq__(other)"])},
 }
 
 
@@ -115,6 +138,9 @@ class InterfaceTest(unittest.TestCase):
         system = System(pair, ("next",), [], {})
         self.assertTrue(system.scale == pair)
         self.assertEqual(system.kind, ("next",))
+        yard = Yard(pair, ("next",), ["a"])
+        self.assertTrue(yard.scale == pair)
+        self.assertEqual(yard.kind, ("next",))
 
 
 if __name__ == "__main__":
