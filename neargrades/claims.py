@@ -7,7 +7,7 @@ from neargrades.errors import NotTold, OpenState
 from neargrades.papers import paper_of
 from neargrades.residues import within
 from neargrades.rounds import near
-from neargrades.systems import System
+from neargrades.systems import System, all_reached
 from neargrades.told import parting_lines
 from neargrades.values import states_in
 
@@ -21,14 +21,7 @@ def open_states(yard, number, x, y):
 
 def _reached(yard, steps, states):
     """The list of the states that are reached from some states, in the yard's order."""
-    reached = {}
-    waiting = list(states)
-    while waiting:
-        x = waiting.pop()
-        if x not in reached:
-            reached[x] = True
-            if x in steps:
-                waiting.extend(states_in(yard.kind, steps[x]))
+    reached = all_reached(states, lambda x: states_in(yard.kind, steps[x]) if x in steps else [])
     return [x for x in yard.states() if x in reached]
 
 

@@ -87,17 +87,23 @@ def _next_states(system, x):
     return states_in(system.kind, system.step(x))
 
 
-def reached_from(system, states):
-    """The list of the states that are reached from some states, in the system's order."""
-    for x in states:
-        check_state(system, x)
+def all_reached(states, leads):
+    """A dict of all that is reached from some states; leads tells the list of the states that one leads to."""
     reached = {}
     waiting = list(states)
     while waiting:
         x = waiting.pop()
         if x not in reached:
             reached[x] = True
-            waiting.extend(_next_states(system, x))
+            waiting.extend(leads(x))
+    return reached
+
+
+def reached_from(system, states):
+    """The list of the states that are reached from some states, in the system's order."""
+    for x in states:
+        check_state(system, x)
+    reached = all_reached(states, lambda x: _next_states(system, x))
     return [x for x in system.states() if x in reached]
 
 
