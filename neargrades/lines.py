@@ -95,7 +95,8 @@ def _wrong_lines(told):
 
 def count_on(counts, lines, most):
     """Count on, where some first lines are counted: all parts of each line's saying, most + 1 if there are more."""
-    for line in lines[len(counts):]:
+    uncounted = lines[len(counts):]
+    for line in uncounted:
         counts.append(min(1 + sum([counts[part] for part in inner_parts(line)]), most + 1))
 
 

@@ -4,7 +4,7 @@ from neargrades.kinds import SETS, item_kinds, side_kind
 from neargrades.lifters import Lifter
 from neargrades.residues import within
 from neargrades.rounds import nearness
-from neargrades.systems import check_state, made_system
+from neargrades.systems import made_system
 
 
 class Members:
@@ -53,10 +53,10 @@ class Members:
 
 def needless(system, x):
     """The list of the (path, k) of the members of outer sets of a step without which it is as near."""
-    check_state(system, x)
+    outer = _outer_sets(system.kind, system.step(x), ())
     table = nearness(system, system)[0]
     told = []
-    for path, kind, members in _outer_sets(system.kind, system.step(x), ()):
+    for path, kind, members in outer:
         told.extend([(path, k) for k in Members(kind, system.scale, table, members).all_needless()])
     return told
 
@@ -66,8 +66,6 @@ def _outer_sets(kind, value, path):
     word = kind[0]
     if word in SETS:
         return [(path, kind, value)]
-    if word in ("names", "next"):
-        return []
     if word == "either":
         return _outer_sets(side_kind(kind, value[0]), value[1], (*path, 0))
     kinds = item_kinds(kind)

@@ -6,7 +6,7 @@ from neargrades.sayforms import GRADED, PARTS, gathered, same_places
 GRADE = "="
 NAME = "like("
 OPENINGS = (
-    GRADE, NAME, "and(", "or(", "by(", "if(", "step(", "now(", "halves(", "left(", "right(", "rows(", "some(", "all(",
+    "=", "like(", "and(", "or(", "by(", "if(", "step(", "now(", "halves(", "left(", "right(", "rows(", "some(", "all(",
 )
 
 

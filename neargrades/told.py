@@ -6,7 +6,7 @@ from neargrades.pairs import check_pair
 from neargrades.residues import within
 from neargrades.rounds import round_below
 from neargrades.sayings import MOST_PARTS, check_saying
-from neargrades.systems import check_like, check_state, reached_from, steps_of
+from neargrades.systems import check_like, reached_from, steps_of
 from neargrades.telling import Teller
 from neargrades.trimming import trimmed
 from neargrades.values import states_in
@@ -15,7 +15,6 @@ from neargrades.worths import worth_at, worths_of_line
 
 def told_saying(system, x, rounds):
     """What a state is told behind so many rounds: the saying c(rounds, x)."""
-    check_state(system, x)
     teller = _teller_of(system, [x], {})
     _make_rounds(teller, [x], rounds)
     return _written(teller.lines, teller.told[x])
@@ -32,7 +31,7 @@ def told_value(system, value, rounds):
 
 
 def _teller_of(system, states, values):
-    """A teller of all that is reached from some states, and of some values more."""
+    """A teller of all that is reached from some states, and of some values more; UnknownState as reached_from."""
     reached = reached_from(system, states)
     return Teller(system, reached, {**{z: system.step(z) for z in reached}, **values})
 
@@ -121,7 +120,7 @@ def judge_lines(system, other, x, y, grade, lines, number):
 def thinned_saying(system, other, x, y, grade, saying):
     """What is left of a saying that parts x from y when its parts give way as long as it parts them yet."""
     _check_asked(system, other, x, y, grade)
-    check_saying(system.kind, system.scale, saying)
+    # The worths raise BadSaying for what is no saying.
     if not _parts(system, other, x, y, grade, saying):
         raise BadSaying(())
     return trimmed(system, other, x, y, grade, saying)

@@ -14,8 +14,9 @@ from neargrades.weighing import Weigher
 
 LESSER = 0
 GREATER = 1
-# What the parts of a saying are, measured by it.
-PART_SIDES = {"and": GREATER, "or": LESSER, "by": GREATER, "if": LESSER}
+# The words of sayings whose parts are never less than the whole, and of those whose parts are never more.
+GREATER_PARTS = ("and", "by")
+LESSER_PARTS = ("or", "if")
 
 
 class Piece:
@@ -147,9 +148,11 @@ class Trimmer:
         scale = self._scale
         tried = [(-2, GREATER, self._piece(scale.nearest, piece.place, [])),
                  (-1, LESSER, self._piece(scale.none, piece.place, []))]
-        if piece.head[0] in PART_SIDES:
-            side = PART_SIDES[piece.head[0]]
-            tried.extend([(k, side, piece.parts[k]) for k in range(len(piece.parts))])
+        numbers = range(len(piece.parts))
+        if piece.head[0] in GREATER_PARTS:
+            tried.extend([(k, GREATER, piece.parts[k]) for k in numbers])
+        if piece.head[0] in LESSER_PARTS:
+            tried.extend([(k, LESSER, piece.parts[k]) for k in numbers])
         return tried
 
     def _parts_with(self, piece, side, other):

@@ -236,13 +236,22 @@ class BadTurnTest(Checks, unittest.TestCase):
                 self.check_bad(kind, ("drop", (), number))
 
     def test_names(self):
-        for names in [("x", "y"), ("x", "y", "z", "w"), ("x", "y", "x"), ("x", "y", "Z"), ("x", "y", ""), ("x", "y", "1a"),
+        for word in ("name", "Names", None, ["names"], ("names",), "drop", "order", "swap", "sides"):
+            self.check_bad(NAMES, (word, (), ("x", "y", "z")))
+        for names in [("x", "y"), ("x", "y", "z", "w"), ("x", "y", "z", "x"), ("x", "x", "y", "z"), ("x", "y", "x"), ("x", "y", "Z"), ("x", "y", ""), ("x", "y", "1a"),
                       ("x", "y", "abcdefghijklm"), ["x", "y", "z"], "xyz", ("x", "y", None), ("x", "y", ["z"]), ("x", "y", ("z",)),
                       None, {}, (), ("x", "y", True), {"x": 1, "y": 2, "z": 3}]:
             self.check_bad(NAMES, ("names", (), names))
         empty = ("names", Space(COST, [], []))
         self.check_alike(kind_behind(empty, ("names", (), ())), empty)
         self.check_bad(empty, ("names", (), []))
+
+    def test_one_item_more_or_less(self):
+        for kind in (NAMES, ("both", NEXT, NEXT), ("either", NEXT, NEXT), ("row", ("p", "q", "r"), NEXT), ("kept", NEXT), NEXT):
+            for turn in [("swap", (), ()), ("swap", (), 0), ("sides", (), ()), ("sides", (), 0), ("sides", (), None), ("drop", ()),
+                         ("drop", (), 0, 0), ("drop", (), 0, None), ("order", ()), ("order", (), (0, 1, 2), 0), ("names", ()),
+                         ("names", (), ("x", "y", "z"), ()), ("names", (), "x", "y", "z"), ("order", (), 0, 1, 2)]:
+                self.check_bad(kind, turn)
 
     def test_any_values(self):
         kind = ("both", NEXT, NEXT)
