@@ -9,13 +9,13 @@ class Teller:
     """The lines of c(0, x), c(1, x) and so on of some states, which lead to none but these."""
 
     def __init__(self, system, states, values):
-        """Hold a dict from the states, and perhaps from more, to values; and the lines behind no round."""
+        """Hold a dict from the states, and perhaps from more names, to values."""
         self._plan = Plan(system.kind)
         self._shelf = Shelf(self._plan, values)
         self._scale = system.scale
         self._book = LineBook()
         self.lines = self._book.lines
-        # The lines of what the states are told behind the rounds that are made, then those of their steps' parts.
+        # The numbers of the lines of what the states are told behind the rounds that are made, none so far.
         self.told = {x: self._book.number_for(self._scale.nearest) for x in states}
         self._begin_anew()
 

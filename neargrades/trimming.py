@@ -112,9 +112,10 @@ class Trimmer:
 
     def _weigh(self, piece):
         for side in (0, 1):
-            piece.codes[side] = self._code(side, piece, [part.codes[side] for part in piece.parts])
+            piece.codes[side] = self._code_above(side, piece, [part.codes[side] for part in piece.parts])
 
-    def _code(self, side, piece, codes):
+    def _code_above(self, side, piece, codes):
+        """The number of the worths that a piece has by one system if its parts have those of some numbers."""
         return self._books[side].code_of(piece.head, piece.place, tuple(codes))
 
     def _pieces(self):
@@ -135,6 +136,7 @@ class Trimmer:
         return False
 
     def _gives_way(self, piece):
+        """Whether one of what is tried in the place of a piece stands there now."""
         for key, side, other in self._tried_for(piece):
             if piece.failed.get(key) != self._changes[1 - side]:
                 if self._parts_with(piece, side, other):
@@ -162,7 +164,7 @@ class Trimmer:
             above = piece.above
             codes = [part.codes[side] for part in above.parts]
             codes[piece.position] = code
-            code = self._code(side, above, codes)
+            code = self._code_above(side, above, codes)
             piece = above
         if code == piece.codes[side]:
             return True
